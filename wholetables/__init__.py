@@ -1,0 +1,1 @@
+"""Tables of whole numbers: what their rows make, without fractions and without rounding."""
