@@ -1,4 +1,8 @@
-"""What several tests need: a determinant by its definition, made-up numbers, and lists that refuse to be changed."""
+"""What several tests need: the document's words as they stand, made-up numbers, and what holds for every call."""
+import contextlib
+import io
+import itertools
+import sys
 
 LOWEST = -9223372036854775808
 HIGHEST = 9223372036854775807
@@ -21,6 +25,29 @@ def determinant_by_first_row(n, table):
     return known[(1 << n) - 1]
 
 
+def minors(rows, columns, table):
+    """For each k, from 0, all k-minors of a table, each by the first of its rows as the document's words define it."""
+    smaller = {((), ()): 1}
+    by_size = [[1]]
+    for k in range(1, min(rows, columns) + 1):
+        larger = {}
+        for some_rows in itertools.combinations(range(rows), k):
+            start = some_rows[0] * columns
+            for some_columns in itertools.combinations(range(columns), k):
+                larger[some_rows, some_columns] = sum(
+                    (-1) ** j * table[start + c] * smaller[some_rows[1:], some_columns[:j] + some_columns[j + 1:]]
+                    for j, c in enumerate(some_columns)
+                )
+        by_size.append(list(larger.values()))
+        smaller = larger
+    return by_size
+
+
+def rank_by_minors(rows, columns, table):
+    """The greatest k such that the table has a k-minor that isn't 0."""
+    return max(k for k, sized in enumerate(minors(rows, columns, table)) if any(sized))
+
+
 def made_up_numbers(seed, count, low, high):
     """Count numbers from low to high, the same ones for the same seed on every Python."""
     state = seed
@@ -37,6 +64,23 @@ def diagonal(numbers):
     return [numbers[i] if i == j else 0 for i in range(n) for j in range(n)]
 
 
+def joined(rows):
+    """The rows as one table, row after row."""
+    return [number for row in rows for number in row]
+
+
+def product(rows, others):
+    """The rows that the multiples in each of `rows` make of the others."""
+    return [[sum(a * b for a, b in zip(row, column)) for column in zip(*others)] for row in rows]
+
+
+def out_of_range(count, most):
+    """Each choice of `count` sizes, one or more of them out of the range of 1 to most."""
+    wrong = (0, most + 1, -1, -2147483648, 2147483647)
+    choices = itertools.product(wrong + (1, most), repeat=count)
+    return [sizes for sizes in choices if any(size in wrong for size in sizes)]
+
+
 def refuse(*args, **kwargs):
     raise AssertionError("what was handed in was changed")
 
@@ -46,3 +90,74 @@ class Untouchable(list):
 
     __setitem__ = __delitem__ = __iadd__ = __imul__ = refuse
     append = clear = extend = insert = pop = remove = reverse = sort = refuse
+
+
+def deepest_call(call, handed_in):
+    """How many calls stand within one another, at most, while this one is worked out."""
+    depths = [0, 0]
+
+    def watch(frame, event, arg):
+        depths[0] += {"call": 1, "return": -1}.get(event, 0)
+        depths[1] = max(depths)
+
+    before = sys.getprofile()
+    sys.setprofile(watch)
+    try:
+        call(*handed_in)
+    finally:
+        sys.setprofile(before)
+    return depths[1]
+
+
+class AsIfForTheFirstTime:
+    """What holds for every call. A class of tests that takes this in has its `call`, and what is handed in, `calls`.
+
+    Among `calls` stand refusals, tables of up to 4 numbers and larger ones.
+    """
+
+    def answers(self, calls):
+        return [self.call(*handed_in) for handed_in in calls]
+
+    def test_what_is_handed_in_is_never_changed(self):
+        for handed_in in self.calls:
+            watched = [Untouchable(each) if isinstance(each, list) else each for each in handed_in]
+            self.assertEqual(self.call(*watched), self.call(*handed_in))
+            self.assertEqual(watched, list(handed_in))
+
+    def test_the_list_given_back_is_a_new_one(self):
+        for handed_in in self.calls:
+            first = self.call(*handed_in)
+            expected = list(first)
+            for each in handed_in:
+                self.assertIsNot(first, each)
+            first.append(99)
+            first[0] = 98
+            self.assertEqual(self.call(*handed_in), expected)
+
+    def test_the_same_again_with_others_between(self):
+        forth = self.answers(self.calls)
+        back = self.answers(reversed(self.calls))
+        twice = self.answers(handed_in for handed_in in self.calls for _ in range(2))
+        self.assertEqual(back[::-1], forth)
+        self.assertEqual(twice[::2], forth)
+        self.assertEqual(twice[1::2], forth)
+
+    def test_kinds(self):
+        for answer in self.answers(self.calls):
+            self.assertIs(type(answer), list)
+            for number in answer:
+                self.assertIs(type(number), int)
+
+    def test_nothing_is_printed(self):
+        out, err = io.StringIO(), io.StringIO()
+        with contextlib.redirect_stdout(out), contextlib.redirect_stderr(err):
+            self.answers(self.calls)
+        self.assertEqual((out.getvalue(), err.getvalue()), ("", ""))
+
+    def test_calls_are_nested_no_deeper_for_larger_tables(self):
+        depths = {False: 0, True: 0}
+        for handed_in in self.calls:
+            large = any(isinstance(each, list) and len(each) > 4 for each in handed_in)
+            depths[large] = max(depths[large], deepest_call(self.call, handed_in))
+        self.assertGreater(depths[True], 0)
+        self.assertLessEqual(depths[True], depths[False])

@@ -1,10 +1,7 @@
-import contextlib
-import io
 import itertools
-import sys
 import unittest
 
-from tests.helper import HIGHEST, LOWEST, Untouchable, determinant_by_first_row, diagonal, made_up_numbers
+from tests.helper import AsIfForTheFirstTime, HIGHEST, LOWEST, determinant_by_first_row, diagonal, made_up_numbers
 from wholetables.tables import determinant
 
 
@@ -58,12 +55,6 @@ class TestOrdinary(DeterminantCase):
     def test_numbers_below_zero_only(self):
         for n in range(1, 8):
             self.check(n, made_up_numbers(n, n * n, -1000, -1))
-
-    def test_kinds(self):
-        for answer in (determinant(1, [1]), determinant(2, [1, 2, 2, 4]), determinant(0, [])):
-            self.assertIs(type(answer), list)
-            for number in answer:
-                self.assertIs(type(number), int)
 
 
 class TestZeroInTheWay(DeterminantCase):
@@ -163,60 +154,11 @@ class TestRefusals(unittest.TestCase):
             self.assertEqual(determinant(n, []), [-2], n)
 
 
-class TestAsIfForTheFirstTime(unittest.TestCase):
-    def test_what_is_handed_in_is_never_changed(self):
-        for n in range(1, 10):
-            for high in (1, 1000):
-                numbers = made_up_numbers(n, n * n, -high, high)
-                handed_in = Untouchable(numbers)
-                self.assertEqual(determinant(n, handed_in), determinant(n, numbers))
-                self.assertEqual(list(handed_in), numbers)
-
-    def test_the_list_given_back_is_a_new_one(self):
-        for n, table in ((0, []), (1, [0]), (2, [0, 7, 1, 3])):
-            first = determinant(n, table)
-            expected = list(first)
-            self.assertIsNot(first, table)
-            first.append(99)
-            first[0] = 98
-            self.assertEqual(determinant(n, table), expected)
-
-    def test_the_same_again_with_others_between(self):
-        calls = [(n, made_up_numbers(n, n * n, LOWEST, HIGHEST)) for n in range(1, 17)] + [(0, []), (17, [])]
-        forth = [determinant(n, table) for n, table in calls]
-        back = [determinant(n, table) for n, table in reversed(calls)]
-        twice = [determinant(n, list(table)) for n, table in calls for _ in range(2)]
-        self.assertEqual(back[::-1], forth)
-        self.assertEqual(twice[::2], forth)
-        self.assertEqual(twice[1::2], forth)
-
-    def test_nothing_is_printed(self):
-        out, err = io.StringIO(), io.StringIO()
-        with contextlib.redirect_stdout(out), contextlib.redirect_stderr(err):
-            determinant(3, made_up_numbers(3, 9, -9, 9))
-            determinant(17, [])
-        self.assertEqual((out.getvalue(), err.getvalue()), ("", ""))
-
-    def test_calls_are_nested_no_deeper_for_a_larger_table(self):
-        self.assertEqual(deepest_call(16), deepest_call(2))
-
-
-def deepest_call(n):
-    """How many calls stand within one another, at most, while a determinant of n rows is worked out."""
-    depths = [0, 0]
-
-    def watch(frame, event, arg):
-        depths[0] += {"call": 1, "return": -1}.get(event, 0)
-        depths[1] = max(depths)
-
-    table = made_up_numbers(n, n * n, 1, 9)
-    before = sys.getprofile()
-    sys.setprofile(watch)
-    try:
-        determinant(n, table)
-    finally:
-        sys.setprofile(before)
-    return depths[1]
+class TestAsIfForTheFirstTime(AsIfForTheFirstTime, unittest.TestCase):
+    call = staticmethod(determinant)
+    calls = [(n, made_up_numbers(n, n * n, LOWEST, HIGHEST)) for n in range(1, 17)] + [
+        (n, made_up_numbers(n, n * n, -1, 1)) for n in range(1, 10)] + [
+        (0, []), (17, []), (1, [0]), (2, [0, 7, 1, 3]), (2, [1, 2, 2, 4])]
 
 
 if __name__ == "__main__":

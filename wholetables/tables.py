@@ -6,9 +6,21 @@ MOST_LARGE = 16
 
 def determinant(n, table):
     """Answer 0 and the determinant of a table of n rows and n columns, or the refusal alone."""
-    if n < 1 or n > MOST_LARGE:
+    if not within(n, MOST_LARGE):
         return [REFUSED]
     return [0, determinant_of(split_rows(n, n, table))]
+
+
+def rank(rows, columns, table):
+    """Answer the rank of a table, or the refusal alone."""
+    if not within(rows, MOST_LARGE) or not within(columns, MOST_LARGE):
+        return [REFUSED]
+    return [rank_of(split_rows(rows, columns, table))]
+
+
+def within(size, most):
+    """Whether a size is from 1 to the most that is allowed."""
+    return size >= 1 and size <= most
 
 
 def split_rows(rows, columns, table):
@@ -28,11 +40,28 @@ def determinant_of(square):
         # The chosen row moves up past `place` others, and each of them turns the sign.
         if place % 2 == 1:
             sign = -sign
-        chosen = rest[place]
-        others = rest[:place] + rest[place + 1:]
-        rest = [step_down(chosen, row, divisor) for row in others]
-        divisor = chosen[0]
+        lead = rest[place][0]
+        rest = clear_others(rest, place, divisor)
+        divisor = lead
     return sign * divisor
+
+
+def rank_of(rows):
+    """The rank of a list of rows that are as long as one another."""
+    rest = rows
+    divisor = 1
+    chosen = 0
+    while len(rest) > 0 and len(rest[0]) > 0:
+        place = first_leading(rest)
+        if place == len(rest):
+            # No row was chosen by this column of nothing but 0, so the divisor stays the last chosen row's.
+            rest = [row[1:] for row in rest]
+        else:
+            lead = rest[place][0]
+            rest = clear_others(rest, place, divisor)
+            divisor = lead
+            chosen += 1
+    return chosen
 
 
 def first_leading(rows):
@@ -41,6 +70,13 @@ def first_leading(rows):
         if row[0] != 0:
             return place
     return len(rows)
+
+
+def clear_others(rows, place, divisor):
+    """What is left of the other rows when the row at this place has cleared their first numbers."""
+    chosen = rows[place]
+    others = rows[:place] + rows[place + 1:]
+    return [step_down(chosen, row, divisor) for row in others]
 
 
 def step_down(chosen, row, divisor):
