@@ -6,6 +6,8 @@ import sys
 
 LOWEST = -9223372036854775808
 HIGHEST = 9223372036854775807
+LOWEST_SMALL = -32768
+HIGHEST_SMALL = 32767
 
 
 def determinant_by_first_row(n, table):
@@ -48,6 +50,36 @@ def rank_by_minors(rows, columns, table):
     return max(k for k, sized in enumerate(minors(rows, columns, table)) if any(sized))
 
 
+def first_place(row):
+    """Where the row's first number that isn't 0 stands; None in a row of nothing but 0."""
+    return next((place for place, number in enumerate(row) if number != 0), None)
+
+
+def is_normal(rows):
+    """Whether a table, as a list of its rows, is normal as the document's words say."""
+    places = [first_place(row) for row in rows]
+    return (
+        None not in places
+        and all(row[place] > 0 for row, place in zip(rows, places))
+        and all(upper < lower for upper, lower in zip(places, places[1:]))
+        and all(0 <= rows[above][place] < rows[i][place] for i, place in enumerate(places) for above in range(i))
+    )
+
+
+def multiples_in_normal(normal_rows, row):
+    """The multiples of a normal table's rows whose sum is this row; None if there are none.
+
+    From above down, each multiple is settled by the place where its row leads: no row further down reaches it.
+    """
+    multiples = []
+    left = list(row)
+    for step in normal_rows:
+        place = first_place(step)
+        multiples.append(left[place] // step[place])
+        left = [number - multiples[-1] * taken for number, taken in zip(left, step)]
+    return None if any(left) else multiples
+
+
 def made_up_numbers(seed, count, low, high):
     """Count numbers from low to high, the same ones for the same seed on every Python."""
     state = seed
@@ -62,6 +94,11 @@ def diagonal(numbers):
     """A table with these numbers on its diagonal and 0 elsewhere."""
     n = len(numbers)
     return [numbers[i] if i == j else 0 for i in range(n) for j in range(n)]
+
+
+def split(columns, table):
+    """The table's rows, each by itself."""
+    return [table[start:start + columns] for start in range(0, len(table), columns)]
 
 
 def joined(rows):

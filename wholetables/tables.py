@@ -2,6 +2,7 @@
 
 REFUSED = -2
 MOST_LARGE = 16
+MOST_SMALL = 8
 
 
 def determinant(n, table):
@@ -16,6 +17,17 @@ def rank(rows, columns, table):
     if not within(rows, MOST_LARGE) or not within(columns, MOST_LARGE):
         return [REFUSED]
     return [rank_of(split_rows(rows, columns, table))]
+
+
+def normal(rows, columns, table):
+    """Answer the rank, then the normal table that makes just the rows that the table makes, or the refusal alone."""
+    if not within(rows, MOST_SMALL) or not within(columns, MOST_SMALL):
+        return [REFUSED]
+    stairs = normal_of(split_rows(rows, columns, table))
+    answer = [len(stairs)]
+    for row in stairs:
+        answer.extend(row)
+    return answer
 
 
 def within(size, most):
@@ -34,7 +46,7 @@ def determinant_of(square):
     sign = 1
     divisor = 1
     while len(rest) > 0:
-        place = first_leading(rest)
+        place = first_place([row[0] for row in rest])
         if place == len(rest):
             return 0
         # The chosen row moves up past `place` others, and each of them turns the sign.
@@ -52,7 +64,7 @@ def rank_of(rows):
     divisor = 1
     chosen = 0
     while len(rest) > 0 and len(rest[0]) > 0:
-        place = first_leading(rest)
+        place = first_place([row[0] for row in rest])
         if place == len(rest):
             # No row was chosen by this column of nothing but 0, so the divisor stays the last chosen row's.
             rest = [row[1:] for row in rest]
@@ -64,12 +76,12 @@ def rank_of(rows):
     return chosen
 
 
-def first_leading(rows):
-    """The place of the first row that begins with another number than 0; the number of rows if there is none."""
-    for place, row in enumerate(rows):
-        if row[0] != 0:
+def first_place(numbers):
+    """The place of the first number that isn't 0; how many numbers there are if there is none."""
+    for place, number in enumerate(numbers):
+        if number != 0:
             return place
-    return len(rows)
+    return len(numbers)
 
 
 def clear_others(rows, place, divisor):
@@ -84,3 +96,66 @@ def step_down(chosen, row, divisor):
     # With the last chosen row's first number as the divisor (1 at the start), what comes out is a minor of the
     # table, up to its sign: so nothing is left over in the division, and the numbers stay as short as minors are.
     return [(chosen[0] * row[j] - row[0] * chosen[j]) // divisor for j in range(1, len(row))]
+
+
+def normal_of(rows):
+    """The rows of the normal table that makes just the rows that these make."""
+    stairs = []
+    for row in rows:
+        # If the table were made normal only at the end, the numbers would grow far longer on the way.
+        stairs = lessen_above(add_row(stairs, row))
+    return stairs
+
+
+def add_row(stairs, row):
+    """Stairs, rows that lead further and further to the right, that make just what the stairs and the row make."""
+    longer = []
+    rest = row
+    for step in stairs:
+        pair = clear_second(step, rest, min(first_place(step), first_place(rest)))
+        longer.append(pair[0])
+        rest = pair[1]
+    if first_place(rest) < len(rest):
+        longer.append(rest)
+    return longer
+
+
+def clear_second(first, second, place):
+    """Two rows that make just what these two make, the second of them with 0 at this place."""
+    upper = first
+    lower = second
+    while lower[place] != 0:
+        left = take_away(upper, upper[place] // lower[place], lower)
+        upper = lower
+        lower = left
+    return [upper, lower]
+
+
+def lessen_above(stairs):
+    """Turn each row's first number that isn't 0 above 0, and lessen what stands above it."""
+    done = []
+    for row in reversed(stairs):
+        done = [lessen(turn_above_zero(row), done)] + done
+    return done
+
+
+def turn_above_zero(row):
+    """The row, or the row times -1, whichever leads with a number above 0."""
+    if row[first_place(row)] < 0:
+        return [-number for number in row]
+    return row
+
+
+def lessen(row, stairs):
+    """Take multiples of a normal table's rows away, until from 0 to less than its first number stands above each."""
+    rest = row
+    for step in stairs:
+        place = first_place(step)
+        # Each further step has 0 where the earlier ones lead, so what was lessened stays so.
+        rest = take_away(rest, rest[place] // step[place], step)
+    return rest
+
+
+def take_away(row, times, other):
+    """The row less so many times the other."""
+    return [number - times * taken for number, taken in zip(row, other)]
