@@ -30,6 +30,14 @@ def normal(rows, columns, table):
     return answer
 
 
+def divisors(rows, columns, table):
+    """Answer the rank, then as many divisors, or the refusal alone."""
+    if not within(rows, MOST_SMALL) or not within(columns, MOST_SMALL):
+        return [REFUSED]
+    found = divisors_of(split_rows(rows, columns, table))
+    return [len(found)] + found
+
+
 def within(size, most):
     """Whether a size is from 1 to the most that is allowed."""
     return size >= 1 and size <= most
@@ -40,13 +48,18 @@ def split_rows(rows, columns, table):
     return [table[i * columns:(i + 1) * columns] for i in range(rows)]
 
 
+def column_at(rows, place):
+    """What stands at this place of each row, from above down."""
+    return [row[place] for row in rows]
+
+
 def determinant_of(square):
     """The determinant of a list of rows, each as long as the list."""
     rest = square
     sign = 1
     divisor = 1
     while len(rest) > 0:
-        place = first_place([row[0] for row in rest])
+        place = first_place(column_at(rest, 0))
         if place == len(rest):
             return 0
         # The chosen row moves up past `place` others, and each of them turns the sign.
@@ -64,7 +77,7 @@ def rank_of(rows):
     divisor = 1
     chosen = 0
     while len(rest) > 0 and len(rest[0]) > 0:
-        place = first_place([row[0] for row in rest])
+        place = first_place(column_at(rest, 0))
         if place == len(rest):
             # No row was chosen by this column of nothing but 0, so the divisor stays the last chosen row's.
             rest = [row[1:] for row in rest]
@@ -159,3 +172,55 @@ def lessen(row, stairs):
 def take_away(row, times, other):
     """The row less so many times the other."""
     return [number - times * taken for number, taken in zip(row, other)]
+
+
+def divisors_of(rows):
+    """The numbers above 0 whose first j have as their product the greatest common divisor of all j-minors."""
+    # Neither making the rows normal nor turning the table over changes those greatest common divisors. By each round
+    # the first number becomes a lesser divisor of itself, or stays and is alone in its row and column from then on;
+    # and so the next ones, each in its turn: the rounds come to an end.
+    rest = normal_of(rows)
+    while not is_diagonal(rest):
+        rest = normal_of(turn_over(rest))
+    return divide_in_turn([row[place] for place, row in enumerate(rest)])
+
+
+def is_diagonal(stairs):
+    """Whether nothing but 0 stands right of the diagonal; in stairs, nothing else stands left of it anyway."""
+    for place, row in enumerate(stairs):
+        if any(row[place + 1:]):
+            return False
+    return True
+
+
+def turn_over(rows):
+    """The columns as rows."""
+    return [column_at(rows, place) for place in range(len(rows[0]))]
+
+
+def divide_in_turn(numbers):
+    """Numbers of which each divides the next, as the divisors of a table with these numbers on its diagonal."""
+    chain = []
+    rest = numbers
+    while len(rest) > 0:
+        first = rest[0]
+        multiples = []
+        for number in rest[1:]:
+            # On a diagonal, two numbers may be traded for their greatest common divisor and least common multiple.
+            common = common_divisor(first, number)
+            multiples.append(first // common * number)
+            first = common
+        chain.append(first)
+        rest = multiples
+    return chain
+
+
+def common_divisor(one, other):
+    """The greatest common divisor of two numbers above 0."""
+    greater = one
+    lesser = other
+    while lesser != 0:
+        left = greater % lesser
+        greater = lesser
+        lesser = left
+    return greater
