@@ -2,6 +2,7 @@
 import contextlib
 import io
 import itertools
+import math
 import sys
 
 LOWEST = -9223372036854775808
@@ -78,6 +79,28 @@ def multiples_in_normal(normal_rows, row):
         multiples.append(left[place] // step[place])
         left = [number - multiples[-1] * taken for number, taken in zip(left, step)]
     return None if any(left) else multiples
+
+
+def makes_by_minors(rows, columns, table, row):
+    """Whether a table makes a row, told by minors alone.
+
+    With the row added, a table has the same rank k if fractions may be used. Then whole multiples are enough just
+    where its k-minors have the same greatest common divisor as before.
+    """
+    before = [math.gcd(*sized) for sized in minors(rows, columns, table)]
+    after = [math.gcd(*sized) for sized in minors(rows + 1, columns, table + row)]
+    k = rank_by_minors(rows, columns, table)
+    return after[k] == before[k] and not any(after[k + 1:])
+
+
+def makes_by_replacing(n, table, row):
+    """Whether a table of n rows and n columns makes a row, where its determinant isn't 0.
+
+    Each row's multiple is the determinant with the row in that row's place, divided by the determinant.
+    """
+    whole = determinant_by_first_row(n, table)
+    replaced = [table[:i * n] + row + table[(i + 1) * n:] for i in range(n)]
+    return all(determinant_by_first_row(n, each) % whole == 0 for each in replaced)
 
 
 def made_up_numbers(seed, count, low, high):

@@ -38,6 +38,16 @@ def divisors(rows, columns, table):
     return [len(found)] + found
 
 
+def makes(rows, columns, table, row):
+    """Answer 1 where the table makes the row, else 0; or the refusal alone."""
+    if not within(rows, MOST_SMALL) or not within(columns, MOST_SMALL):
+        return [REFUSED]
+    # Where a normal row leads, the lessened row has from 0 to less than that lead; of all the rows that are made, only
+    # the one of nothing but 0 has that at every such place.
+    left = lessen(row, normal_of(split_rows(rows, columns, table)))
+    return [0 if any(left) else 1]
+
+
 def within(size, most):
     """Whether a size is from 1 to the most that is allowed."""
     return size >= 1 and size <= most
