@@ -103,6 +103,20 @@ def makes_by_replacing(n, table, row):
     return all(determinant_by_first_row(n, each) % whole == 0 for each in replaced)
 
 
+def same_by_minors(columns, table, another):
+    """Whether two tables make the same rows, told by minors alone.
+
+    One below the other, they make all that either makes. That is no more than one of them makes by itself just where
+    it has the same rank k, and its k-minors the same greatest common divisor.
+    """
+    measures = []
+    for each in (table, another, table + another):
+        sized = minors(len(each) // columns, columns, each)
+        k = max(size for size, numbers in enumerate(sized) if any(numbers))
+        measures.append((k, math.gcd(*sized[k])))
+    return measures[0] == measures[1] == measures[2]
+
+
 def made_up_numbers(seed, count, low, high):
     """Count numbers from low to high, the same ones for the same seed on every Python."""
     state = seed

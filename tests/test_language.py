@@ -27,6 +27,12 @@ METHODS = set("""
     split splitlines startswith strip update upper values zfill bit_length
 """.split())
 
+NAMES_NOT_USED = set("""
+    register mro elements open input version_info with_traceback add_note attrgetter breakpoint builtins compile
+    copyright credits delattr dir eval exec exit gc getattr globals hasattr help id importlib license locals
+    methodcaller os quit setattr super type vars sys __name__
+""".split())
+
 WORDS = re.compile(
     r"\b(type|typing|typing_extensions|enum|Enum|IntEnum|StrEnum|Flag|IntFlag|Generic|Protocol|ABC|ABCMeta|namedtuple"
     r"|NamedTuple|TypedDict|TYPE_CHECKING|abstractmethod)\b|dataclass|overload|contextmanager")
@@ -101,7 +107,20 @@ def faults_of_node(node):
         found.append(f"L25 {node.attr} in row {row}")
     if kind == "BinOp" and isinstance(node.op, ast.Pow) and not written_exponent(node.right):
         found.append(f"L27 power in row {row}")
+    if kind == "Constant" and isinstance(node.value, str) and "%" in node.value:
+        found.append(f"L27 sign in a text in row {row}")
+    if kind == "Compare" and not plain_is(node):
+        found.append(f"L20 is in row {row}")
     return found + faults_of_name(node)
+
+
+def plain_is(node):
+    """Whether each `is` of a comparison stands beside None, True or False."""
+    sides = [node.left] + node.comparators
+    return all(
+        any(isinstance(side, ast.Constant) and repr(side.value) in ("None", "True", "False")
+            for side in sides[k:k + 2])
+        for k, each in enumerate(node.ops) if isinstance(each, (ast.Is, ast.IsNot)))
 
 
 def written_exponent(node):
@@ -127,6 +146,8 @@ def faults_of_name(node):
     found = []
     if name.startswith("_"):
         found.append(f"L12 {name}")
+    if name in NAMES_NOT_USED:
+        found.append(f"L17 {name}")
     bound = kind != "Name" or isinstance(node.ctx, ast.Store)
     if hasattr(builtins, name) and (bound or name not in OWN_NAMES | {"True", "False", "None"}):
         found.append(f"L8/L15 {name} in row {node.lineno}")
@@ -161,12 +182,15 @@ class TestTheChecksThemselves(unittest.TestCase):
             "def f(a):\n    return [x for y in a for x in y]\n", "def f():\n    pass\n\n\nf()\n", "x = 1\t\n",
             "# a type\n", "x = '\u00e9'\n", "x = 1  #" + " " * 120 + "\n", "x = 1\n" + "\n" * 400,
             "def f():\n" + "    pass\n" * 40, "def f(a):\n    assert a\n", "def f(a):\n    yield a\n",
+            "def f(a, b):\n    return a is b\n", "def f(a):\n    return a is 1\n",
+            "def f(elements):\n    return 1\n", "x = 'a % b'\n",
         ):
             self.assertNotEqual(faults(text), [], text)
 
     def test_what_is_within_the_rules_passes(self):
         text = '"""Why."""\n\nMOST = -2\n\n\ndef f(a):\n    return [x // 2 for x in a if x > 2 ** 3]\n'
         self.assertEqual(faults(text), [])
+        self.assertEqual(faults("def f(a):\n    return a is not None and a is True\n"), [])
 
 
 if __name__ == "__main__":

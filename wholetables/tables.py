@@ -48,6 +48,16 @@ def makes(rows, columns, table, row):
     return [0 if any(left) else 1]
 
 
+def same(rows, other_rows, columns, table, another):
+    """Answer 1 where both tables make the same rows, else 0; or the refusal alone."""
+    if not within(rows, MOST_SMALL) or not within(other_rows, MOST_SMALL) or not within(columns, MOST_SMALL):
+        return [REFUSED]
+    # Only one normal table makes just the rows that a table makes, so tables that make the same rows share it.
+    first = normal_of(split_rows(rows, columns, table))
+    second = normal_of(split_rows(other_rows, columns, another))
+    return [1 if first == second else 0]
+
+
 def within(size, most):
     """Whether a size is from 1 to the most that is allowed."""
     return size >= 1 and size <= most
